@@ -1,0 +1,1 @@
+"""Spelling by sound: rules make sounds of letters while these come."""

@@ -1,0 +1,39 @@
+"""The run that the document gives."""
+
+import unittest
+
+from calling import RUN_TEXT, RUN_WRITTEN, WRITE, fault, read, sounds, spell, text_told, told
+
+
+class Run(unittest.TestCase):
+    def test_spell(self):
+        cases = {
+            "na": "ξ",
+            "n": "ν",
+            "nn": "νν",
+            "nna": "νξ",
+            "kka": "ση",
+            "b": "b",
+            "bna": "bξ",
+            "kn": "κν",
+        }
+        for letters, heard in cases.items():
+            with self.subTest(letters=letters):
+                self.assertEqual(told(read(RUN_TEXT), spell(letters)), [[7], sounds(heard)])
+
+    def test_what_the_other_calls_of_the_run_say_of_spelling(self):
+        cases = {"nk": "νκ", "kk": "σκ", "kkk": "σσκ", "ab": "αb", "a": "α", "k": "κ"}
+        for letters, heard in cases.items():
+            with self.subTest(letters=letters):
+                self.assertEqual(told(read(RUN_TEXT), spell(letters)), [[7], sounds(heard)])
+
+    def test_written(self):
+        self.assertEqual(told(read(RUN_TEXT), WRITE), [[7], text_told(RUN_WRITTEN)])
+
+    def test_last_line_changed(self):
+        changed = RUN_WRITTEN.replace("nn ν n\n", "nn ν nn\n")
+        self.assertEqual(told(read(changed)), [fault(6, 2)])
+
+
+if __name__ == "__main__":
+    unittest.main()
