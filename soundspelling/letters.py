@@ -20,3 +20,8 @@ def is_character(number):
 def all_letters(row):
     """Tell whether all of the row are letters."""
     return all([is_letter(number) for number in row])
+
+
+def all_characters(row):
+    """Tell whether all of the row are characters."""
+    return all([is_character(number) for number in row])

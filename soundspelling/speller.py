@@ -6,6 +6,8 @@ BEGIN = 1
 READ = 2
 WRITE = 3
 SPELL = 4
+SURE = 5
+LEFT_OPEN = 6
 WITHOUT_ROW = (BEGIN, WRITE)
 
 
@@ -38,4 +40,8 @@ def answer_of(session, call, row):
         return session.write()
     if call == SPELL:
         return session.spell(row)
-    raise NotImplementedError(f"call {call}")
+    if call == SURE:
+        return session.sure(row)
+    if call == LEFT_OPEN:
+        return session.left_open(row)
+    return session.told_for(row)

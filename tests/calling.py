@@ -7,6 +7,8 @@ WRITE = [3]
 
 TOO_LONG = [-1]
 NO_LETTER = [-3]
+NO_CHARACTER = [-3]
+NONE = [-5]
 
 RUN_TEXT = "a α\nn ν\nna ξ\nnn ν n\nk κ\nkk σ k\nka η\n"
 RUN_WRITTEN = "a α\nk κ\nka η\nkk σ k\nn ν\nna ξ\nnn ν n\n"
@@ -31,9 +33,25 @@ def read(text):
     return [2, len(row)] + row
 
 
-def spell(row):
+def with_row(call, row):
     row = numbers(row)
-    return [4, len(row)] + row
+    return [call, len(row)] + row
+
+
+def spell(row):
+    return with_row(4, row)
+
+
+def sure(row):
+    return with_row(5, row)
+
+
+def left_open(row):
+    return with_row(6, row)
+
+
+def told_for(row):
+    return with_row(7, row)
 
 
 def parted(told):
@@ -62,6 +80,18 @@ def sounds(row):
     """The answer of spell that tells these sounds."""
     row = numbers(row)
     return [len(row)] + row
+
+
+def letters(row):
+    """The answer of open or type that tells these letters."""
+    row = numbers(row)
+    return [len(row)] + row
+
+
+def sure_told(heard, open_count):
+    """The answer of sure that tells these sounds and how many letters are open."""
+    heard = numbers(heard)
+    return [len(heard), open_count] + heard
 
 
 def text_told(text):

@@ -138,6 +138,29 @@ class Form(unittest.TestCase):
                     self.assertNotIn(node.attr, NAMES_OUT)
                     self.assertTrue(node.attr in own or node.attr in METHODS + ["__init__"], node.attr)
 
+    def test_lists_of_a_file_s_top_are_only_read(self):
+        for text, tree in self.each():
+            kept = [part.targets[0].id for part in tree.body
+                    if isinstance(part, ast.Assign) and isinstance(part.value, (ast.Tuple, ast.List, ast.Dict))]
+            above = {id(below): node for node in ast.walk(tree) for below in ast.iter_child_nodes(node)}
+            for node in ast.walk(tree):
+                if isinstance(node, ast.Name) and isinstance(node.ctx, ast.Load) and node.id in kept:
+                    use = above[id(node)]
+                    read_only = (ast.Subscript, ast.Compare, ast.For, ast.comprehension, ast.Call)
+                    self.assertIsInstance(use, read_only, node.id)
+                    if isinstance(use, ast.Call):
+                        self.assertIn(use.func.id, ("len", "list", "tuple", "dict", "enumerate", "zip", "sorted"))
+
+    def test_methods_and_values_have_different_names(self):
+        methods, values = set(), set()
+        for text, tree in self.each():
+            for node in ast.walk(tree):
+                if isinstance(node, ast.ClassDef):
+                    methods |= {part.name for part in node.body if isinstance(part, ast.FunctionDef)}
+                if isinstance(node, ast.Attribute) and isinstance(node.ctx, ast.Store):
+                    values.add(node.attr)
+        self.assertEqual(methods & values, set())
+
     def test_the_interface_stands_where_it_is_told(self):
         defined = {}
         for name, (text, tree) in self.files.items():

@@ -4,21 +4,7 @@ import random
 import unittest
 
 from calling import NO_LETTER, TOO_LONG, read, sounds, spell, told
-
-
-def spelled_plainly(rules, letters):
-    """The document's words on spelling, on texts, rule by rule."""
-    heard = ""
-    while letters:
-        fitting = [rule for rule in rules if letters.startswith(rule[0])]
-        if fitting:
-            taken, sound, back = max(fitting, key=lambda rule: len(rule[0]))
-            heard += sound
-            letters = back + letters[len(taken):]
-        else:
-            heard += letters[0]
-            letters = letters[1:]
-    return heard
+from plain import random_rules, random_row, rules_text, spelled_plainly
 
 
 class Spell(unittest.TestCase):
@@ -100,20 +86,12 @@ class Spell(unittest.TestCase):
 
     def test_many_tables(self):
         chance = random.Random(3)
-
-        def row(least, most):
-            return "".join([chance.choice("abc") for step in range(chance.randint(least, most))])
-
         for turn in range(400):
-            rules = {}
-            for step in range(chance.randint(0, 12)):
-                letters = row(1, 6)
-                rules[letters] = (letters, row(1, 4).upper(), row(0, len(letters) - 1))
-            text = "".join([" ".join(rule).rstrip() + "\n" for rule in rules.values()])
-            letters = row(0, 40)
-            with self.subTest(text=text, letters=letters):
-                self.assertEqual(told(read(text), spell(letters)),
-                                 [[len(rules)], sounds(spelled_plainly(list(rules.values()), letters))])
+            rules = random_rules(chance, "abc", "ABC", 12)
+            row = random_row(chance, "abc", 0, 40)
+            with self.subTest(rules=rules, row=row):
+                self.assertEqual(told(read(rules_text(rules)), spell(row)),
+                                 [[len(rules)], sounds(spelled_plainly(rules, row))])
 
 
 if __name__ == "__main__":
